@@ -176,6 +176,14 @@ func wrongs() []wrong {
 	return out
 }
 
+func TestOwnIsAllAlike(t *testing.T) {
+	for _, l := range lists() {
+		if got := model.Own(l); !same(got, l) {
+			t.Errorf("Own(%v) is %v", l, got)
+		}
+	}
+}
+
 func TestWrongOfRightDeeds(t *testing.T) {
 	for _, d := range rights() {
 		if err := model.Wrong(d); err != api.OK {
@@ -697,6 +705,7 @@ func calls() []call {
 		return number(0)
 	}
 	return []call{
+		{"Own", model.Own},
 		{"Next", func(l []api.Record) []api.Record { return number(model.Next(l)) }},
 		{"put", do(put(7, "ab"))},
 		{"put of nothing", do(put(1, ""))},
